@@ -105,7 +105,7 @@ func MulBig(a Big, b Big) (Big, bool) {
 	if !goodPair(a, b) {
 		return Big{}, false
 	}
-	return fitting(withSign(a.Neg != b.Neg, mulLimbs(a.Limbs, b.Limbs)))
+	return fitting(mulSigned(a, b))
 }
 
 func HalvesMul(a Big, b Big) (Big, bool) {
@@ -134,10 +134,7 @@ func BigText(a Big) (string, bool) {
 	if !GoodBig(a) {
 		return "", false
 	}
-	if a.Neg {
-		return "-" + digitsOf(a.Limbs), true
-	}
-	return digitsOf(a.Limbs), true
+	return textOfBig(a), true
 }
 
 func ReadBig(s string) (Big, bool) {
@@ -210,6 +207,10 @@ func addSigned(a Big, b Big) Big {
 
 func subSigned(a Big, b Big) Big {
 	return addSigned(a, Big{Neg: !b.Neg, Limbs: b.Limbs})
+}
+
+func mulSigned(a Big, b Big) Big {
+	return withSign(a.Neg != b.Neg, mulLimbs(a.Limbs, b.Limbs))
 }
 
 // trimLimbs leaves out noughts at the end; it cuts the capacity, too, so that none of them is handed out.
@@ -428,6 +429,13 @@ func gcdLimbs(a []int, b []int) []int {
 		a, b = b, rest
 	}
 	return slices.Clone(a)
+}
+
+func textOfBig(a Big) string {
+	if a.Neg {
+		return "-" + digitsOf(a.Limbs)
+	}
+	return digitsOf(a.Limbs)
 }
 
 func digitsOf(limbs []int) string {

@@ -20,131 +20,22 @@ func wrongBigs() []impl.Big {
 	}
 }
 
-// answer is all that a call told.
-type answer struct {
-	bigs []impl.Big
-	n    int
-	s    string
-	ok   bool
+func callsOfOneBig() []any {
+	return []any{impl.GoodBig, impl.IntOf, impl.BigText}
 }
 
-type call struct {
-	name string
-	of   func(a, b impl.Big) answer
-}
-
-func one(a impl.Big, ok bool) answer { return answer{bigs: []impl.Big{a}, ok: ok} }
-
-// callsOfOne look at the first number alone.
-func callsOfOne() []call {
-	return []call{
-		{"GoodBig", func(a, b impl.Big) answer { return answer{ok: impl.GoodBig(a)} }},
-		{"IntOf", func(a, b impl.Big) answer {
-			n, ok := impl.IntOf(a)
-			return answer{n: n, ok: ok}
-		}},
-		{"BigText", func(a, b impl.Big) answer {
-			s, ok := impl.BigText(a)
-			return answer{s: s, ok: ok}
-		}},
-	}
-}
-
-func callsOfTwo() []call {
-	return []call{
-		{"CompareBig", func(a, b impl.Big) answer {
-			n, ok := impl.CompareBig(a, b)
-			return answer{n: n, ok: ok}
-		}},
-		{"AddBig", func(a, b impl.Big) answer { return one(impl.AddBig(a, b)) }},
-		{"SubBig", func(a, b impl.Big) answer { return one(impl.SubBig(a, b)) }},
-		{"MulBig", func(a, b impl.Big) answer { return one(impl.MulBig(a, b)) }},
-		{"HalvesMul", func(a, b impl.Big) answer { return one(impl.HalvesMul(a, b)) }},
-		{"DivBig", func(a, b impl.Big) answer {
-			q, r, ok := impl.DivBig(a, b)
-			return answer{bigs: []impl.Big{q, r}, ok: ok}
-		}},
-		{"GcdBig", func(a, b impl.Big) answer { return one(impl.GcdBig(a, b)) }},
-	}
-}
-
-func isZero(x answer) bool {
-	for _, a := range x.bigs {
-		if !sameBig(a, impl.Big{}) {
-			return false
-		}
-	}
-	return x.n == 0 && x.s == "" && !x.ok
-}
-
-const behind = 3
-
-// watched copies a number into longer memory, and tells what all of that memory holds.
-func watched(a impl.Big, mark int) (impl.Big, []int) {
-	memory := slices.Concat(a.Limbs, limbs(behind, mark))
-	return impl.Big{Neg: a.Neg, Limbs: memory[:len(a.Limbs)]}, memory
-}
-
-// scribble overwrites an answer, as far as its memory goes.
-func scribble(x answer) {
-	for _, a := range x.bigs {
-		l := a.Limbs[:cap(a.Limbs)]
-		for i := range l {
-			l[i] = -7
-		}
-	}
-}
-
-func copied(x answer) answer {
-	x.bigs = slices.Clone(x.bigs)
-	for i := range x.bigs {
-		x.bigs[i].Limbs = slices.Clone(x.bigs[i].Limbs)
-	}
-	return x
-}
-
-func sameAnswer(x, y answer) bool {
-	return slices.EqualFunc(x.bigs, y.bigs, sameBig) && x.n == y.n && x.s == y.s && x.ok == y.ok
-}
-
-// checkUntouched: promise 19: no argument is written into, also not behind its length, and what lies there changes no answer; nor does an answer share memory with an argument.
-func checkUntouched(t *testing.T, c call, a, b impl.Big) answer {
-	t.Helper()
-	plainly := c.of(a, b)
-	wa, ma := watched(a, 9)
-	wb, mb := watched(b, -9)
-	keptA, keptB := slices.Clone(ma), slices.Clone(mb)
-	got := c.of(wa, wb)
-	if !sameAnswer(plainly, got) {
-		t.Fatalf("%s %v %v: %v, with memory behind the limbs %v", c.name, a, b, plainly, got)
-	}
-	if !slices.Equal(ma, keptA) || !slices.Equal(mb, keptB) {
-		t.Fatalf("%s wrote into %v or %v", c.name, a, b)
-	}
-	kept := copied(got)
-	for i := range ma {
-		ma[i] = 11
-	}
-	for i := range mb {
-		mb[i] = 11
-	}
-	if !sameAnswer(got, kept) {
-		t.Fatalf("%s %v %v: the answer changes with its arguments", c.name, a, b)
-	}
-	copy(ma, keptA)
-	copy(mb, keptB)
-	scribble(got)
-	if !slices.Equal(ma, keptA) || !slices.Equal(mb, keptB) {
-		t.Fatalf("%s %v %v: the arguments change with the answer", c.name, a, b)
-	}
-	return plainly
+func callsOfTwoBigs() []any {
+	return []any{impl.CompareBig, impl.AddBig, impl.SubBig, impl.MulBig, impl.HalvesMul, impl.DivBig, impl.GcdBig}
 }
 
 func TestPromise19GoodNumbers(t *testing.T) {
-	for _, c := range slices.Concat(callsOfOne(), callsOfTwo()) {
-		for _, a := range edgeBigs() {
-			for _, b := range edgeBigs() {
-				checkUntouched(t, c, a, b)
+	for _, a := range edgeBigs() {
+		for _, f := range callsOfOneBig() {
+			watch(t, f, a)
+		}
+		for _, b := range edgeBigs() {
+			for _, f := range callsOfTwoBigs() {
+				watch(t, f, a, b)
 			}
 		}
 	}
@@ -153,19 +44,13 @@ func TestPromise19GoodNumbers(t *testing.T) {
 func TestPromise19WrongNumbers(t *testing.T) {
 	fine := []impl.Big{{}, positive(7), negative(1, 2, 3), positive(limbs(impl.MaxLimbs, top)...)}
 	for _, wrong := range wrongBigs() {
-		for _, c := range callsOfOne() {
-			if x := checkUntouched(t, c, wrong, impl.Big{}); !isZero(x) {
-				t.Errorf("%s %v: %v", c.name, wrong, x)
-			}
+		for _, f := range callsOfOneBig() {
+			wantZero(t, f, wrong)
 		}
-		for _, c := range callsOfTwo() {
+		for _, f := range callsOfTwoBigs() {
 			for _, other := range slices.Concat(fine, wrongBigs()) {
-				if x := checkUntouched(t, c, wrong, other); !isZero(x) {
-					t.Errorf("%s %v %v: %v", c.name, wrong, other, x)
-				}
-				if x := checkUntouched(t, c, other, wrong); !isZero(x) {
-					t.Errorf("%s %v %v: %v", c.name, other, wrong, x)
-				}
+				wantZero(t, f, wrong, other)
+				wantZero(t, f, other, wrong)
 			}
 		}
 	}
@@ -173,46 +58,19 @@ func TestPromise19WrongNumbers(t *testing.T) {
 
 func TestPromise19DivisionByNought(t *testing.T) {
 	for _, a := range edgeBigs() {
-		for _, nought := range []impl.Big{{}, {Limbs: []int{}}} {
-			q, r, ok := impl.DivBig(a, nought)
-			if ok || !sameBig(q, impl.Big{}) || !sameBig(r, impl.Big{}) {
-				t.Errorf("%v by 0: %v %v %v", a, q, r, ok)
-			}
-		}
-	}
-}
-
-// The quotient and the rest share no memory: what is put behind one does not come up in the other.
-func TestPromise19AnswersApart(t *testing.T) {
-	for _, a := range edgeBigs() {
-		for _, b := range edgeBigs() {
-			q, r, _ := impl.DivBig(a, b)
-			keptQ, keptR := slices.Clone(q.Limbs), slices.Clone(r.Limbs)
-			scribble(answer{bigs: []impl.Big{q}})
-			if !slices.Equal(r.Limbs, keptR) {
-				t.Fatalf("%v by %v: the rest changes with the quotient", a, b)
-			}
-			copy(q.Limbs, keptQ)
-			scribble(answer{bigs: []impl.Big{r}})
-			if !slices.Equal(q.Limbs, keptQ) {
-				t.Fatalf("%v by %v: the quotient changes with the rest", a, b)
-			}
-		}
+		wantZero(t, impl.DivBig, a, impl.Big{})
+		wantZero(t, impl.DivBig, a, impl.Big{Limbs: []int{}})
 	}
 }
 
 // One number as both arguments: neither may be worked on in its place.
 func TestPromise19OneNumberTwice(t *testing.T) {
-	for _, c := range callsOfTwo() {
+	for _, f := range callsOfTwoBigs() {
 		for _, a := range edgeBigs() {
-			w, memory := watched(a, 5)
-			kept := slices.Clone(memory)
-			got := c.of(w, w)
-			if !slices.Equal(memory, kept) {
-				t.Fatalf("%s wrote into %v", c.name, a)
-			}
-			if want := c.of(a, copied(one(a, true)).bigs[0]); !sameAnswer(got, want) {
-				t.Fatalf("%s %v with itself: %v, want %v", c.name, a, got, want)
+			apart := watch(t, f, a, impl.Big{Neg: a.Neg, Limbs: slices.Clone(a.Limbs)})
+			kept := slices.Clone(a.Limbs)
+			if got := watch(t, f, a, a); !sameTold(got, apart) || !slices.Equal(a.Limbs, kept) {
+				t.Fatalf("%s %v with itself: %v, want %v", nameOf(f), a, got, apart)
 			}
 		}
 	}
@@ -226,10 +84,12 @@ func TestPromise19ReadAnew(t *testing.T) {
 		func() impl.Big { return impl.BigOf(-1 << 62) },
 	} {
 		first := read()
-		kept := copied(one(first, true))
-		scribble(one(first, true))
-		if again := read(); !sameBig(again, kept.bigs[0]) {
-			t.Errorf("read again: %v, want %v", again, kept.bigs[0])
+		kept := slices.Clone(first.Limbs)
+		for i := range first.Limbs {
+			first.Limbs[i] = -7
+		}
+		if again := read(); !again.Neg || !slices.Equal(again.Limbs, kept) {
+			t.Errorf("read again: %v, want %v", again, kept)
 		}
 	}
 }
