@@ -3,6 +3,7 @@ package tests
 import (
 	"math/big"
 	"math/rand/v2"
+	"slices"
 	"testing"
 
 	"loop.example/g00409/impl"
@@ -46,6 +47,12 @@ func most() impl.Big {
 
 func turnedRat(a impl.Rat) impl.Rat {
 	return over(turned(a.Num), a.Den)
+}
+
+func cloneRat(a impl.Rat) impl.Rat {
+	clone := over(positive(slices.Clone(a.Num.Limbs)...), positive(slices.Clone(a.Den.Limbs)...))
+	clone.Num.Neg = a.Num.Neg
+	return clone
 }
 
 // edgeRats are 0, whole numbers, and fractions that meet the limits, with both signs.

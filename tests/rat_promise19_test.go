@@ -2,7 +2,6 @@ package tests
 
 import (
 	"math"
-	"slices"
 	"testing"
 
 	"loop.example/g00409/impl"
@@ -107,8 +106,7 @@ func TestPromise19Terms(t *testing.T) {
 // One fraction as both arguments, and one number as Num and Den, or as all terms: none may be worked on in its place.
 func TestPromise19OneMemoryTwice(t *testing.T) {
 	for _, a := range edgeRats() {
-		kept := over(positive(slices.Clone(a.Num.Limbs)...), positive(slices.Clone(a.Den.Limbs)...))
-		kept.Num.Neg = a.Num.Neg
+		kept := cloneRat(a)
 		for _, f := range callsOfTwoRats() {
 			apart := watch(t, f, kept, a)
 			if got := watch(t, f, a, a); !sameTold(got, apart) || !sameRat(a, kept) {

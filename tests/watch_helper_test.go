@@ -207,3 +207,18 @@ func wantZero(t *testing.T, f any, args ...any) {
 		t.Errorf("%s %v: %v, want the zero answer", nameOf(f), args, x)
 	}
 }
+
+// wantDirectly calls with the arguments as they are, so that they may share memory with each other, which watch takes apart.
+func wantDirectly(t *testing.T, f any, want told, args ...any) {
+	t.Helper()
+	given := valuesOf(args)
+	got := told(reflect.ValueOf(f).Call(given))
+	if !sameTold(got, want) {
+		t.Fatalf("%s %v in one memory: %v, want %v", nameOf(f), args, got, want)
+	}
+	rooms := []room{}
+	for _, v := range given {
+		rooms = append(rooms, roomsOf(v)...)
+	}
+	checkApart(t, nameOf(f), args, rooms, got)
+}
