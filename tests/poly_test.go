@@ -97,15 +97,7 @@ func checkSquareFree(t *testing.T, p []impl.Rat) bool {
 
 func checkSigns(t *testing.T, p []impl.Rat) {
 	t.Helper()
-	want, last := 0, 0
-	for _, a := range plainCoefs(p) {
-		if a.Sign()*last < 0 {
-			want++
-		}
-		if a.Sign() != 0 {
-			last = a.Sign()
-		}
-	}
+	want := plainChanges(plainCoefs(p))
 	if n, ok := impl.SignsIn(p); n != want || !ok {
 		t.Fatalf("SignsIn %v: %d %v, want %d", p, n, ok, want)
 	}
