@@ -355,3 +355,18 @@ func wrongWays() [][]impl.Pt {
 	}
 	return wrong
 }
+
+// eachWayWithOneBeyond goes through ways of all lengths that have one point beyond the grid, at each place in its turn.
+func eachWayWithOneBeyond(do func(l []impl.Pt, at int)) {
+	for n := 3; n <= impl.MaxCorners; n++ {
+		for at := range n {
+			for _, from := range [][]impl.Pt{longWay(n), make([]impl.Pt, n)} {
+				for _, p := range wayOf(far+1, 0, -far-1, 0, 0, far+1, 0, -far-1) {
+					l := slices.Clone(from)
+					l[at] = p
+					do(l, at)
+				}
+			}
+		}
+	}
+}

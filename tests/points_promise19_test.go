@@ -82,22 +82,13 @@ func TestPromise19WrongWays(t *testing.T) {
 
 // A point beyond the grid at each place of a way: all of them are looked at, though two points alike would tell that it is not simple.
 func TestPromise19WrongPtAnywhere(t *testing.T) {
-	for n := 3; n <= impl.MaxCorners; n++ {
-		for at := range n {
-			for _, from := range [][]impl.Pt{longWay(n), make([]impl.Pt, n)} {
-				for _, p := range wayOf(far+1, 0, -far-1, 0, 0, far+1, 0, -far-1) {
-					l := slices.Clone(from)
-					l[at] = p
-					for _, f := range callsOfWay() {
-						wantZero(t, f, l)
-					}
-					wantZero(t, impl.InnerPoints, l)
-					wantZero(t, impl.MovePts, l, pt(0, 0))
-					wantZero(t, impl.MovePts, l, pt(-signOfInt(p.X), -signOfInt(p.Y)))
-				}
-			}
+	eachWayWithOneBeyond(func(l []impl.Pt, at int) {
+		for _, f := range append(callsOfWay(), impl.InnerPoints) {
+			wantZero(t, f, l)
 		}
-	}
+		wantZero(t, impl.MovePts, l, pt(0, 0))
+		wantZero(t, impl.MovePts, l, pt(-signOfInt(l[at].X), -signOfInt(l[at].Y)))
+	})
 }
 
 func TestPromise19InnerPointsNotSimple(t *testing.T) {
